@@ -26,7 +26,11 @@ WORDS = re.compile(
     r"\b(type|typing|typing_extensions|enum|Enum|IntEnum|StrEnum|Flag|IntFlag|Generic|Protocol|ABC|ABCMeta|"
     r"namedtuple|NamedTuple|TypedDict|TYPE_CHECKING|abstractmethod)\b|dataclass|overload|contextmanager"
 )
-NOT_USED = "isnumeric isdecimal isidentifier sort popitem format format_map encode casefold swapcase".split()
+METHODS = set("""
+    append clear copy count endswith extend find get index insert isalnum isalpha isdigit islower isspace isupper items
+    join keys ljust lower lstrip partition pop remove replace reverse rfind rjust rpartition rsplit rstrip setdefault
+    split splitlines startswith strip update upper values zfill bit_length
+""".split())
 
 
 def bound_names(tree):
@@ -37,6 +41,40 @@ def bound_names(tree):
             yield node.id
         elif isinstance(node, (ast.FunctionDef, ast.ClassDef)):
             yield node.name
+
+
+def local_names(tree):
+    for node in ast.walk(tree):
+        if isinstance(node, ast.FunctionDef):
+            yield from (name for name in bound_names(node) if name != node.name)
+
+
+def top_names(tree):
+    for node in tree.body:
+        if isinstance(node, (ast.FunctionDef, ast.ClassDef)):
+            yield node.name
+        elif isinstance(node, ast.Assign):
+            yield node.targets[0].id
+
+
+def drawn(tree):
+    """Each name that a file draws from another one, with that file."""
+    return {alias.name: node.module for node in tree.body if isinstance(node, ast.ImportFrom) for alias in node.names}
+
+
+def own_methods(trees):
+    kinds = [node for tree in trees for node in tree.body if isinstance(node, ast.ClassDef)]
+    return {node.name for kind in kinds for node in kind.body if isinstance(node, ast.FunctionDef)}
+
+
+def kept_values(trees):
+    nodes = [node for tree in trees for node in ast.walk(tree) if isinstance(node, ast.Attribute)]
+    return {node.attr for node in nodes if isinstance(node.ctx, ast.Store)}
+
+
+def called_methods(trees):
+    nodes = [node for tree in trees for node in ast.walk(tree) if isinstance(node, ast.Call)]
+    return {node.func.attr for node in nodes if isinstance(node.func, ast.Attribute)}
 
 
 def is_docstring(node, tree):
@@ -105,8 +143,33 @@ class TestLanguage(unittest.TestCase):
                 for node in ast.walk(tree):
                     if isinstance(node, ast.Name) and hasattr(builtins, node.id):
                         self.assertIn(node.id, OWN_NAMES)
-                    elif isinstance(node, ast.Attribute):
-                        self.assertNotIn(node.attr, NOT_USED)
+
+    def test_methods_and_values(self):
+        trees = [tree for file, text, tree in each_file()]
+        methods, values, called = own_methods(trees), kept_values(trees), called_methods(trees)
+        self.assertEqual(methods & values, set())
+        self.assertEqual(called - methods - METHODS, set())
+
+    def test_nothing_is_called_like_a_class_or_an_import(self):
+        for file, text, tree in each_file():
+            with self.subTest(file=file):
+                taken = {node.name for node in tree.body if isinstance(node, ast.ClassDef)} | set(drawn(tree))
+                self.assertEqual(taken & set(local_names(tree)), set())
+
+    def test_a_name_is_drawn_from_the_file_that_defines_it(self):
+        trees = {f"doughhours.{file[:-3]}": tree for file, text, tree in each_file()}
+        for file, tree in trees.items():
+            for name, source in drawn(tree).items():
+                with self.subTest(file=file, name=name):
+                    self.assertIn(name, top_names(trees[source]))
+
+    def test_no_two_files_draw_from_one_another(self):
+        draws = {f"doughhours.{file[:-3]}": set(drawn(tree).values()) for file, text, tree in each_file()}
+        while draws:
+            free = [file for file, sources in draws.items() if not sources & set(draws)]
+            self.assertTrue(free, draws)
+            for file in free:
+                del draws[file]
 
 
 if __name__ == "__main__":
