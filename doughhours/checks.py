@@ -1,6 +1,6 @@
 """The bounds that more than one module asks for."""
 
-from doughhours.errors import BadCount, BadName, BadNumber
+from doughhours.errors import BadCount, BadName, BadNumber, NoBatch
 
 LETTERS = "abcdefghijklmnopqrstuvwxyz"
 LONGEST_NAME = 12
@@ -20,3 +20,8 @@ def check_number(number, lowest, highest):
 def check_count(count, lowest, highest):
     if not lowest <= count <= highest:
         raise BadCount(f"{count} of them, not {lowest} to {highest}")
+
+
+def check_batch(batch, count):
+    if not 1 <= batch <= count:
+        raise NoBatch(f"no batch {batch} among {count}")

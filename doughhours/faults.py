@@ -1,7 +1,7 @@
 """What goes wrong in a plan, and how the ovens' heats go where nothing does."""
 
-from doughhours.checks import check_number
-from doughhours.errors import Faulty, NoBatch, NoOven
+from doughhours.checks import check_batch, check_number
+from doughhours.errors import Faulty, NoOven
 from doughhours.ovens import NOTHING_BAKES, between, course
 from doughhours.plans import Run, count_of, fitted, lasting, loaves_in, parts_of
 from doughhours.times import NIGHT
@@ -81,9 +81,7 @@ def heat_fails(oven, baking, minute):
 
 
 def late(bakery, orders, plan, batch, minutes):
-    count = len(fitted(bakery, orders, plan))
-    if not 1 <= batch <= count:
-        raise NoBatch(f"no batch {batch} among {count}")
+    check_batch(batch, len(fitted(bakery, orders, plan)))
     check_number(minutes, 1, NIGHT)
     run = plan[batch - 1]
     changed = list(plan)

@@ -2,6 +2,7 @@
 
 from doughhours.bakery import Bakery
 from doughhours.breads import Bread, Stage
+from doughhours.night import Night
 from doughhours.orders import Order
 from doughhours.ovens import Oven
 from doughhours.plans import Run
@@ -34,6 +35,17 @@ def seen(handed):
     """All that is in a value, so that two looks at it can be compared."""
     if isinstance(handed, (list, tuple)):
         return [type(handed).__name__] + [(id(part), seen(part)) for part in handed]
-    if isinstance(handed, (Bakery, Bread, Stage, Oven, Order, Run)):
+    if isinstance(handed, (Bakery, Bread, Stage, Oven, Order, Run, Night)):
         return {name: seen(value) for name, value in vars(handed).items()}
     return handed
+
+
+def shop(breads, night=60, hands=1, benches=1, ovens=((10, 10, 200),)):
+    """A bakery of breads told as {name: [(least, most, want, heat)]} and of ovens told as (room, rate, heat)."""
+    made = [Bread(name, [Stage("work", *stage) for stage in stages]) for name, stages in breads.items()]
+    return Bakery(night, hands, benches, [Oven(*oven) for oven in ovens], made)
+
+
+def placed(*rows):
+    """Orders from rows of a bread's name, its time and, where it isn't one, the number of its loaves."""
+    return [Order(name, loaves[0] if loaves else 1, due) for name, due, *loaves in rows]

@@ -8,6 +8,7 @@ from doughhours.faults import FAULTS, fault, heats, late
 from doughhours.orders import Order
 from doughhours.ovens import Oven, course
 from doughhours.plans import Run
+from models import drawn, first_of, walked, wanted_in
 from samples import BREADS, FAR, bakery, seen
 
 
@@ -370,81 +371,6 @@ class TestWhichGoesFirst(Faults):
         self.tells(asked, [("rest", 1, 100, [Run(91, [9])])], (100, "short", 1))
         self.tells(asked, [("rest", 1, 100, [Run(75, [25])])], (95, "long", 1))
         self.tells(asked, [("rest", 1, 100, [Run(80, [25])])], (100, "door", 1))
-
-
-def walked(asked, orders, plan):
-    """Point 19 word by word and minute by minute: all faults, each as (minute, place of its word, number)."""
-    most = max(oven.room for oven in asked.ovens)
-    batches = [(number, min(most, order.loaves - done)) for number, order in enumerate(orders, start=1)
-               for done in range(0, order.loaves, most)]
-    found, works = [], []
-    for place, (run, (number, loaves)) in enumerate(zip(plan, batches), start=1):
-        order, now = orders[number - 1], run.begin
-        stages = [bread for bread in asked.breads if bread.name == order.bread][0].stages
-        for stage, length in zip(stages, run.lengths):
-            if length < stage.least:
-                found.append((now + length, 1, place))
-            if length > stage.most:
-                found.append((now + stage.most, 2, place))
-            works += [(minute, stage.want, run.oven, loaves, stage.heat) for minute in range(now, now + length)]
-            now += length
-        if now > order.due:
-            found.append((order.due, 0, number))
-    for want, has, place in (("hands", asked.hands, 3), ("bench", asked.benches, 4)):
-        minutes = [work[0] for work in works if work[1] == want]
-        found += [(minute, place, 0) for minute in minutes if minutes.count(minute) > has]
-    for number, oven in enumerate(asked.ovens, start=1):
-        baking = {}
-        for minute, want, used, loaves, heat in works:
-            if want == "oven" and used == number:
-                baking.setdefault(minute, []).append((loaves, heat))
-        since, last = 0, oven.heat
-        for minute in sorted(baking):
-            if sum(loaves for loaves, heat in baking[minute]) > oven.room:
-                found.append((minute, 5, number))
-            wanted = {heat for loaves, heat in baking[minute]}
-            if len(wanted) > 1 or any(abs(heat - last) > (minute - since) * oven.rate for heat in wanted):
-                found.append((minute, 6, number))
-            since, last = minute + 1, min(wanted)
-    return found
-
-
-def wanted_in(asked, orders, plan, oven):
-    """What course is asked with for a plan without a fault, in a bakery whose orders make the plan's runs in turn."""
-    most = max(oven.room for oven in asked.ovens)
-    names = [order.bread for order in orders for first in range(0, order.loaves, most)]
-    wanted = [-1] * asked.night
-    for name, run in zip(names, plan):
-        for stage, (begin, end) in zip(asked.bread_of(name).stages, run.spans()):
-            if stage.want == "oven" and run.oven == oven:
-                wanted[begin:end] = [stage.heat] * (end - begin)
-    return wanted
-
-
-def first_of(found):
-    if not found:
-        return None
-    minute, place, number = min(found)
-    return (minute, FAULTS[place], number)
-
-
-def drawn(chance):
-    """A bakery, orders and a plan that fits, near enough to a good one that each word comes first now and then."""
-    rooms = [chance.randint(3, 12) for oven in range(chance.randint(1, 3))]
-    ovens = [Oven(room, chance.choice((1, 5, 10, 30, 300)), chance.choice((0, 180, 200, 230))) for room in rooms]
-    asked = Bakery(chance.randint(60, 200), chance.randint(1, 3), chance.randint(1, 3), ovens, list(BREADS))
-    orders, plan = [], []
-    for number in range(chance.randint(0, 4)):
-        bread = chance.choice(BREADS)
-        due = asked.night if chance.random() < 0.8 else chance.randint(0, asked.night)
-        orders.append(Order(bread.name, chance.randint(1, 14), due))
-        for batch in range(0, orders[-1].loaves, max(rooms)):
-            lengths = [chance.choice((10, 11, 15, 20)) for stage in bread.stages]
-            if chance.random() < 0.1:
-                lengths[chance.randrange(len(lengths))] = chance.choice((0, 5, 9, 21, 40))
-            begin = chance.randint(0, max(0, due - sum(lengths)) + 3)
-            plan.append(Run(begin, lengths, chance.randint(1, len(rooms)) if bread.bakes() else 0))
-    return asked, orders, plan
 
 
 class TestAgainstWalking(unittest.TestCase):

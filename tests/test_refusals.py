@@ -3,9 +3,11 @@
 import itertools
 import unittest
 
+from doughhours.board import board
 from doughhours.errors import BadCount, BadPlan, BeyondNight, NoBread, TooMany
 from doughhours.faults import fault, heats, late
 from doughhours.orders import Order, accept, cut
+from doughhours.planner import few, last_begin, latest, slack, ways
 from doughhours.plans import Run, held, stand
 from samples import BREADS, bakery, seen
 
@@ -22,10 +24,18 @@ PLAN_ASKERS = {
     "late for no batch by no minute": lambda asked, orders, plan: late(asked, orders, plan, 10 ** 40, -1),
     "heats": lambda asked, orders, plan: heats(asked, orders, plan, 1),
     "heats of no oven": lambda asked, orders, plan: heats(asked, orders, plan, 0),
+    "board": board,
 }
 ORDER_ASKERS = {
     "accept": lambda asked, orders, plan: accept(asked, orders),
     "cut": lambda asked, orders, plan: cut(asked, orders),
+    "ways": lambda asked, orders, plan: ways(asked, orders, 1),
+    "ways of no batch": lambda asked, orders, plan: ways(asked, orders, 0),
+    "latest": lambda asked, orders, plan: latest(asked, orders),
+    "last_begin": lambda asked, orders, plan: last_begin(asked, orders, 1),
+    "last_begin of no batch": lambda asked, orders, plan: last_begin(asked, orders, 10 ** 40),
+    "slack": lambda asked, orders, plan: slack(asked, orders),
+    "few": lambda asked, orders, plan: few(asked, orders),
     **PLAN_ASKERS,
 }
 
@@ -42,32 +52,34 @@ class Refusals(unittest.TestCase):
 
 
 class TestOrders(Refusals):
-    def setUp(self):
-        self.bakery = bakery(night=100, rooms=(2, 5))
+    def cases(self, night):
         good = Order("rest", 1, 30)
-        self.cases = (
+        return (
             (BadCount, [good] * 13),
-            (BadCount, [Order("oat", 60, 101)] * 13),
+            (BadCount, [Order("oat", 60, night + 1)] * 13),
             (NoBread, [Order("oat", 1, 30)]),
             (NoBread, [good] * 5 + [Order("oat", 1, 30)]),
-            (NoBread, [Order("rest", 1, 101), Order("oat", 1, 30)]),
+            (NoBread, [Order("rest", 1, night + 1), Order("oat", 1, 30)]),
             (NoBread, [Order("rest", 60, -1), Order("rest", 60, 30), Order("oat", 60, 30)]),
-            (BeyondNight, [Order("rest", 1, 101)]),
+            (BeyondNight, [Order("rest", 1, night + 1)]),
             (BeyondNight, [Order("rest", 1, -1)]),
             (BeyondNight, [good] * 11 + [Order("rest", 1, 10 ** 40)]),
-            (BeyondNight, [Order("rest", 60, 30), Order("rest", 60, 30), Order("rest", 60, 101)]),
+            (BeyondNight, [Order("rest", 60, 30), Order("rest", 60, 30), Order("rest", 60, night + 1)]),
             (TooMany, [Order("rest", 60, 30), Order("rest", 60, 30), Order("rest", 1, 30)]),
+            (TooMany, [Order("whole", 60, 30), Order("whole", 60, 0), Order("rest", 1, 0)]),
         )
 
     def test_whatever_the_plan_is(self):
-        for refusal, orders in self.cases:
-            runs = [Run(0, [10]) for order in orders]
-            for plan in (runs, [], runs + [Run(0, [10])], [Run(0, [], 3)]):
-                self.refuses(ORDER_ASKERS, refusal, self.bakery, orders, plan)
+        # The longer nights are more than the planner goes through.
+        for night in (100, 120, 121, 720):
+            for refusal, orders in self.cases(night):
+                runs = [Run(0, [10]) for order in orders]
+                for plan in (runs, [], runs + [Run(0, [10])], [Run(0, [], 3)]):
+                    self.refuses(ORDER_ASKERS, refusal, bakery(night=night, rooms=(2, 5)), orders, plan)
 
     def test_a_plan_that_fits_in_number(self):
         orders = [Order("rest", 60, 30), Order("rest", 60, 30), Order("rest", 1, 30)]
-        self.refuses(ORDER_ASKERS, TooMany, self.bakery, orders, [Run(0, [10])] * 25)
+        self.refuses(ORDER_ASKERS, TooMany, bakery(night=100, rooms=(2, 5)), orders, [Run(0, [10])] * 25)
 
 
 class TestPlans(Refusals):
